@@ -6,6 +6,7 @@ import (
 	"testing"
 
 	"circa/api"
+	"circa/trials"
 )
 
 func checkParse(t *testing.T, s string, want api.Civil, refused api.Errno) {
@@ -139,50 +140,19 @@ func read(s string) (api.Civil, api.Errno) {
 	return c, api.OK
 }
 
-// edits are a text, and all texts that have one byte more, one byte less, or
-// another byte at one place.
-func edits(s string) []string {
-	l := []string{s}
-	for i := 0; i <= len(s); i++ {
-		if i < len(s) {
-			l = append(l, s[:i]+s[i+1:])
-		}
-		for _, b := range []byte("0123459-+ /:.xX\x00\xff") {
-			l = append(l, s[:i]+string([]byte{b})+s[i:])
-			if i < len(s) {
-				l = append(l, s[:i]+string([]byte{b})+s[i+1:])
-			}
-		}
-	}
-	return l
-}
-
 // P6.6: all texts that two edits make of a few texts: exactly those are
 // accepted that numbers have.
 func TestParseAcceptsOneFormOnly(t *testing.T) {
-	for _, s := range []string{"2000-02-29", "-0001-12-31", "0010-01-10", "10000-11-09", "-9223372036854775808-01-01"} {
-		for _, once := range edits(s) {
-			for _, twice := range edits(once) {
-				want, refused := read(twice)
-				checkParse(t, twice, want, refused)
-			}
-		}
+	texts := []string{"2000-02-29", "-0001-12-31", "0010-01-10", "10000-11-09", "-9223372036854775808-01-01"}
+	for s := range trials.Near("0123459-+ /:.xX\x00\xff", 2, texts...) {
+		want, refused := read(s)
+		checkParse(t, s, want, refused)
 	}
 }
 
 // P6.6: all short texts over a few bytes.
 func TestParseShortTexts(t *testing.T) {
-	texts := []string{""}
-	for range 7 {
-		longer := []string{""}
-		for _, s := range texts {
-			for _, b := range []byte("01-+x") {
-				longer = append(longer, s+string(b))
-			}
-		}
-		texts = longer
-	}
-	for _, s := range texts {
+	for _, s := range trials.Short("01-+x", 7) {
 		for _, whole := range []string{s, s + "-01-01", "0001-01-" + s, "-0001-" + s} {
 			want, refused := read(whole)
 			checkParse(t, whole, want, refused)

@@ -7,6 +7,7 @@ import (
 	"testing"
 
 	"circa/api"
+	"circa/trials"
 )
 
 func checkCompare(t *testing.T, a, b api.End, want int) {
@@ -196,32 +197,19 @@ func TestParseForm(t *testing.T) {
 // P8.4, P8.5: all texts that two edits make of a few texts: exactly those are
 // accepted that ends have.
 func TestParseAcceptsOneFormOnly(t *testing.T) {
-	for _, s := range []string{"", "inf", "-inf", "0", "-10", "9223372036854775807", "-9223372036854775808"} {
-		for _, once := range edits(s) {
-			for _, twice := range edits(once) {
-				want, refused := read(twice)
-				checkParse(t, twice, want, refused)
-				if refused == api.OK {
-					checkText(t, want, twice, api.OK)
-				}
-			}
+	texts := []string{"", "inf", "-inf", "0", "-10", "9223372036854775807", "-9223372036854775808"}
+	for s := range trials.Near("0789infINF-+ .\x00\xff", 2, texts...) {
+		want, refused := read(s)
+		checkParse(t, s, want, refused)
+		if refused == api.OK {
+			checkText(t, want, s, api.OK)
 		}
 	}
 }
 
 // P8.4: all short texts over a few bytes.
 func TestParseShortTexts(t *testing.T) {
-	texts := []string{""}
-	for range 6 {
-		longer := []string{""}
-		for _, s := range texts {
-			for _, b := range []byte("-+inf01") {
-				longer = append(longer, s+string(b))
-			}
-		}
-		texts = longer
-	}
-	for _, s := range texts {
+	for _, s := range trials.Short("-+inf01", 6) {
 		want, refused := read(s)
 		checkParse(t, s, want, refused)
 	}

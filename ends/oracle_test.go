@@ -69,21 +69,3 @@ func read(s string) (api.End, api.Errno) {
 	}
 	return day(n.Int64()), api.OK
 }
-
-// edits are a text, and all texts that have one byte more, one byte less, or
-// another byte at one place.
-func edits(s string) []string {
-	l := []string{s}
-	for i := 0; i <= len(s); i++ {
-		if i < len(s) {
-			l = append(l, s[:i]+s[i+1:])
-		}
-		for _, b := range []byte("0789infINF-+ .\x00\xff") {
-			l = append(l, s[:i]+string([]byte{b})+s[i:])
-			if i < len(s) {
-				l = append(l, s[:i]+string([]byte{b})+s[i+1:])
-			}
-		}
-	}
-	return l
-}

@@ -6,6 +6,7 @@ import (
 	"testing"
 
 	"circa/api"
+	"circa/trials"
 )
 
 // P1.5
@@ -106,17 +107,7 @@ func TestParseAcceptsOneFormOnly(t *testing.T) {
 	for n := int64(-9999); n <= 99999; n++ {
 		written[Text(n)] = n
 	}
-	texts := []string{""}
-	for range 5 {
-		longer := []string{""}
-		for _, s := range texts {
-			for _, b := range []byte("0129-+ _.x") {
-				longer = append(longer, s+string(b))
-			}
-		}
-		texts = longer
-	}
-	for _, s := range texts {
+	for _, s := range trials.Short("0129-+ _.x", 5) {
 		want, ok := written[s]
 		n, err := Parse(s)
 		if ok && (n != want || err != api.OK) || !ok && (n != 0 || err != api.ErrForm) {
